@@ -1,0 +1,83 @@
+"""The desk: calls come in as one list of numbers, and what they answer goes out as one."""
+
+from turnvotes.counting import Tally
+from turnvotes.groups import beater_of_all, smallest_group
+from turnvotes.reading import BALLOT, BEGIN, CANDIDATES, FIRST, SMALLEST, WINS, read_calls
+
+MOST_CANDIDATES = 12
+MOST_BALLOTS = 256
+
+
+def answers(calls):
+    """Gives back for each call, in order, how many numbers it answers, then these."""
+    tally = Tally()
+    told = []
+    for number, plain, order in read_calls(calls):
+        answer = answer_call(tally, number, plain, order)
+        told.append(len(answer))
+        told.extend(answer)
+    return told
+
+
+def answer_call(tally, number, plain, order):
+    """Gives back what a call answers: -4 if it needs candidates and there are none."""
+    if number == BEGIN:
+        return answer_begin(tally)
+    if number == CANDIDATES:
+        return answer_candidates(tally, plain[0])
+    if tally.size == 0:
+        return [-4]
+    return answer_with_candidates(tally, number, plain, order)
+
+
+def answer_with_candidates(tally, number, plain, order):
+    """Gives back what a call answers that needs candidates, where there are some."""
+    if number == BALLOT:
+        return answer_ballot(tally, order, plain[0])
+    if number == WINS:
+        return answer_wins(tally, plain[0], plain[1])
+    if number == FIRST:
+        return answer_first(tally)
+    if number == SMALLEST:
+        return [smallest_group(tally)]
+    raise NotImplementedError(f"call {number} is not written yet")
+
+
+def answer_begin(tally):
+    """Has no candidates; 0."""
+    tally.start(0)
+    return [0]
+
+
+def answer_candidates(tally, size):
+    """Has this many candidates from now on, and no ballots; -1 if that's not from 1 to 12."""
+    if not 1 <= size <= MOST_CANDIDATES:
+        return [-1]
+    tally.start(size)
+    return [0]
+
+
+def answer_ballot(tally, order, times):
+    """Takes in a ballot; -1 if it's no order of all candidates, -2 if there's no room for it."""
+    if not tally.is_order(order):
+        return [-1]
+    if tally.ballots == MOST_BALLOTS:
+        return [-2]
+    before = tally.ballots
+    tally.cast(order, times)
+    return [before]
+
+
+def answer_wins(tally, winner, loser):
+    """Tells how often one wins over the other; -1 if one's no candidate."""
+    if not tally.is_candidate(winner) or not tally.is_candidate(loser):
+        return [-1]
+    return [0, tally.wins[winner][loser]]
+
+
+def answer_first(tally):
+    """Tells who beats all others; -2 if nobody does."""
+    candidate = beater_of_all(tally)
+    if candidate is None:
+        return [-2]
+    return [candidate]
