@@ -2,11 +2,8 @@
 
 import unittest
 
-from asking import (BEGIN, FIRST, LEAST, MOST, MOST_TIMES, SMALLEST, ask_behind, ballot, candidates,
-                    wins)
-
-NO_ORDERS_OF_THREE = ([], [0], [0, 1], [2, 1], [0, 1, 2, 0], [0, 1, 2, 3], [0, 0, 1], [2, 2, 2],
-                      [1, 2, 1], [0, 1, 3], [1, 2, 3], [255, 1, 0], [0, 1, 2] * 4, list(range(12)))
+from asking import (BEGIN, FIRST, LEAST, MOST, MOST_TIMES, NO_ORDERS_OF_THREE, SMALLEST, ask_behind,
+                    ballot, candidates, wins)
 
 
 def all_wins(n):

@@ -1,28 +1,21 @@
 """Promises 5 (first) and 6 (smallest)."""
 
 import itertools
-import random
 import unittest
 
-from asking import BEGIN, FIRST, MOST_TIMES, SMALLEST, ask_behind, ballot, candidates
+from asking import (BEGIN, CIRCLE, FIRST, MOST_TIMES, SMALLEST, ask_behind, ask_cast, ballot, candidates,
+                    count_beats, many_casts)
 
-CIRCLE = [ballot([0, 1, 2]), ballot([1, 2, 0]), ballot([2, 0, 1])]
+CIRCLE_OF_BALLOTS = [ballot(order, times) for order, times in CIRCLE]
 
 
 def told_of(n, ballots):
     return ask_behind([BEGIN, candidates(n)] + ballots, FIRST, SMALLEST)
 
 
-def beats(n, cast):
-    """Who beats whom, counted anew from the ballots."""
-    def often(i, j):
-        return sum(times for order, times in cast if order.index(i) < order.index(j))
-    return {(i, j): i != j and often(i, j) > often(j, i) for i in range(n) for j in range(n)}
-
-
 def expected(n, cast):
     """first and smallest as the words tell them, by going through all groups there are."""
-    table = beats(n, cast)
+    table = count_beats(n, cast)
     groups = []
     for size in range(1, n + 1):
         for group in itertools.combinations(range(n), size):
@@ -69,7 +62,7 @@ class FirstTest(unittest.TestCase):
         self.assertEqual(self.first(3, ballot([0, 1, 2], 3), ballot([1, 0, 2], 3)), [-2])
 
     def test_nobody_in_a_circle(self):
-        self.assertEqual(self.first(3, *CIRCLE), [-2])
+        self.assertEqual(self.first(3, *CIRCLE_OF_BALLOTS), [-2])
 
     def test_unlike_times_break_a_circle(self):
         self.assertEqual(self.first(3, ballot([0, 1, 2]), ballot([1, 2, 0], 5), ballot([2, 0, 1])), [1])
@@ -95,7 +88,7 @@ class SmallestTest(unittest.TestCase):
             self.assertEqual(self.smallest(n), [2 ** n - 1])
 
     def test_all_in_a_circle(self):
-        self.assertEqual(self.smallest(3, *CIRCLE), [7])
+        self.assertEqual(self.smallest(3, *CIRCLE_OF_BALLOTS), [7])
 
     def test_all_where_a_longer_way_leads_back(self):
         ballots = [ballot([0, 1, 2, 3]), ballot([1, 2, 3, 0]), ballot([3, 0, 1, 2])]
@@ -120,8 +113,7 @@ class SmallestTest(unittest.TestCase):
 class ByTheWordsTest(unittest.TestCase):
     def check(self, n, cast):
         with self.subTest(n=n, cast=cast):
-            ballots = [ballot(order, times) for order, times in cast]
-            self.assertEqual(told_of(n, ballots), expected(n, cast))
+            self.assertEqual(ask_cast(n, cast, FIRST, SMALLEST), expected(n, cast))
 
     def test_three_candidates_and_three_ballots(self):
         orders = list(itertools.permutations(range(3)))
@@ -129,11 +121,7 @@ class ByTheWordsTest(unittest.TestCase):
             self.check(3, [(order, 1) for order in chosen])
 
     def test_many_sets_of_ballots(self):
-        chance = random.Random(6)
-        for turn in range(1500):
-            n = chance.randint(1, 6)
-            cast = [(tuple(chance.sample(range(n), n)), chance.choice((0, 1, 1, 2, 3, MOST_TIMES)))
-                    for place in range(chance.randint(0, 7))]
+        for n, cast in many_casts(6, 1500):
             self.check(n, cast)
 
 

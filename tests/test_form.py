@@ -19,6 +19,13 @@ FORBIDDEN_WORDS = set("""
     namedtuple NamedTuple TypedDict TYPE_CHECKING abstractmethod
 """.split())
 
+WALKED_AT_ONCE = ("range", "zip", "enumerate", "reversed")
+WALKERS = ("list", "tuple", "dict", "sorted", "sum", "any", "all", "enumerate", "zip", "min", "max")
+
+FORBIDDEN_STEPS = (ast.With, ast.Match, ast.Delete, ast.Global, ast.Nonlocal, ast.Assert, ast.Yield,
+                   ast.YieldFrom, ast.AsyncFunctionDef, ast.Await, ast.SetComp, ast.DictComp,
+                   ast.GeneratorExp, ast.NamedExpr, ast.Starred, ast.Div, ast.Set, ast.AnnAssign)
+
 ALLOWED_AT_TOP = (ast.ImportFrom, ast.FunctionDef, ast.ClassDef, ast.Assign, ast.Expr)
 
 
@@ -84,6 +91,31 @@ class FormTest(unittest.TestCase):
                     self.assertEqual(node.level, 0, name)
                     self.assertRegex(node.module, r"\Aturnvotes\.\w+\Z", name)
                     self.assertNotIn("*", [alias.name for alias in node.names], name)
+
+    def test_steps_outside_the_language(self):
+        for name, tree in trees():
+            for node in ast.walk(tree):
+                self.assertNotIsInstance(node, FORBIDDEN_STEPS, name)
+                if isinstance(node, (ast.For, ast.While)):
+                    self.assertEqual(node.orelse, [], name)
+                if isinstance(node, ast.Assign):
+                    self.assertEqual(len(node.targets), 1, name)
+                if isinstance(node, ast.ListComp):
+                    self.assertEqual(len(node.generators), 1, name)
+                    self.assertLessEqual(len(node.generators[0].ifs), 1, name)
+
+    def test_what_is_walked_at_once_is_not_kept(self):
+        for name, tree in trees():
+            walked = set()
+            for node in ast.walk(tree):
+                if isinstance(node, (ast.For, ast.comprehension)):
+                    walked.add(node.iter)
+                elif isinstance(node, ast.Call) and isinstance(node.func, ast.Name) and node.func.id in WALKERS:
+                    walked.update(node.args)
+            for node in ast.walk(tree):
+                if isinstance(node, ast.Call) and isinstance(node.func, ast.Name):
+                    if node.func.id in WALKED_AT_ONCE:
+                        self.assertIn(node, walked, (name, node.lineno))
 
     def test_names_are_own_or_allowed(self):
         for name, tree in trees():

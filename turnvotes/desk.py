@@ -1,8 +1,12 @@
 """The desk: calls come in as one list of numbers, and what they answer goes out as one."""
 
+from turnvotes.chains import group_of_heads
 from turnvotes.counting import Tally
-from turnvotes.groups import beater_of_all, smallest_group
-from turnvotes.reading import BALLOT, BEGIN, CANDIDATES, FIRST, SMALLEST, WINS, read_calls
+from turnvotes.groups import beater_of_all, smallest_group, uncovered_group
+from turnvotes.orders import calmest_order, last_to_stand
+from turnvotes.pairs import order_by_pairs
+from turnvotes.reading import BALLOT, BEGIN, CALMEST, CANDIDATES, FIRST, RANKED, SMALLEST, TURNS
+from turnvotes.reading import UNCOVERED, WINS, read_calls
 
 MOST_CANDIDATES = 12
 MOST_BALLOTS = 256
@@ -38,9 +42,22 @@ def answer_with_candidates(tally, number, plain, order):
         return answer_wins(tally, plain[0], plain[1])
     if number == FIRST:
         return answer_first(tally)
+    if number == TURNS:
+        return answer_turns(tally, order)
+    if number == CALMEST:
+        return answer_order(calmest_order(tally))
+    if number == RANKED:
+        return answer_order(order_by_pairs(tally))
+    return [group_asked_for(tally, number)]
+
+
+def group_asked_for(tally, number):
+    """Gives back the group for which a call of this number asks."""
     if number == SMALLEST:
-        return [smallest_group(tally)]
-    raise NotImplementedError(f"call {number} is not written yet")
+        return smallest_group(tally)
+    if number == UNCOVERED:
+        return uncovered_group(tally)
+    return group_of_heads(tally)
 
 
 def answer_begin(tally):
@@ -81,3 +98,15 @@ def answer_first(tally):
     if candidate is None:
         return [-2]
     return [candidate]
+
+
+def answer_turns(tally, order):
+    """Tells who stands at the end of votes in turn; -1 if it's no order of all candidates."""
+    if not tally.is_order(order):
+        return [-1]
+    return [last_to_stand(tally, order)]
+
+
+def answer_order(order):
+    """Tells how many candidates an order has, then these, filled up with 0."""
+    return [len(order)] + order + [0] * (MOST_CANDIDATES - len(order))

@@ -40,3 +40,21 @@ def smallest_group(tally):
     """Gives back the smallest group that beats all others."""
     # Of two groups that beat all others one lies in the other: the smaller has the lesser sum.
     return min([group_around(tally, candidate) for candidate in range(tally.size)])
+
+
+def covers(tally, one, other):
+    """Tells whether one beats the other, and everybody whom the other beats."""
+    if not tally.beats(one, other):
+        return False
+    beaten = [third for third in range(tally.size) if tally.beats(other, third)]
+    return all([tally.beats(one, third) for third in beaten])
+
+
+def is_covered(tally, candidate):
+    """Tells whether somebody covers this candidate."""
+    return any([covers(tally, one, candidate) for one in range(tally.size)])
+
+
+def uncovered_group(tally):
+    """Gives back the group of those whom nobody covers."""
+    return group_of([candidate for candidate in range(tally.size) if not is_covered(tally, candidate)])

@@ -6,7 +6,11 @@ BALLOT = 2
 WINS = 3
 FIRST = 4
 SMALLEST = 5
+UNCOVERED = 6
+HEADS = 7
 TURNS = 8
+CALMEST = 9
+RANKED = 10
 
 # By the number of the call: how many plain numbers it has behind it.
 PLAIN_NUMBERS = (0, 1, 1, 2, 0, 0, 0, 0, 0, 0, 0)
